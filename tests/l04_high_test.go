@@ -242,14 +242,21 @@ func cardParts() [][]int64 {
 // wrongLists are lists that are not lists of cards with a number of elements from least to most.
 func wrongLists(least, most int) [][]int64 {
 	deck := wholeDeck()
-	lists := append(invalidLists(), nil, []int64{}, deck)
+	lists := append(invalidLists(), deck)
+	if least > 0 {
+		lists = append(lists, nil, []int64{})
+	}
 	for length := 1; length <= 12; length++ {
 		if length < least || length > most {
 			lists = append(lists, slices.Clone(deck[20:20+length]))
 			continue
 		}
 		for place := range length {
-			for _, wrong := range append([]int64{deck[20+(place+1)%length], deck[20+(place+length-1)%length]}, noCards...) {
+			wrongs := slices.Clone(noCards)
+			if length > 1 {
+				wrongs = append(wrongs, deck[20+(place+1)%length], deck[20+(place+length-1)%length])
+			}
+			for _, wrong := range wrongs {
 				changed := slices.Clone(deck[20 : 20+length])
 				changed[place] = wrong
 				lists = append(lists, changed)
