@@ -73,7 +73,8 @@ func partList() map[string][]int64 {
 		for i, group := range row {
 			parts[group] = rangeOfGroups(row[i : i+1])
 			parts[group+"+"] = rangeOfGroups(row[i:])
-			for j, last := range row[:i+1] {
+			// The element itself is left out: with - only smaller ones follow.
+			for j, last := range row[:i] {
 				parts[group+"-"+last] = rangeOfGroups(row[j : i+1])
 			}
 		}
@@ -277,9 +278,8 @@ var knownRanges = []struct{ text, classes string }{
 	{"33-22", "33 22"},
 	{"JJ-99", "JJ TT 99"},
 	{"AA-22", "22 33 44 55 66 77 88 99 TT JJ QQ KK AA"},
-	{"TT-TT", "TT"},
-	{"AA-AA", "AA"},
-	{"22-22", "22"},
+	{"AA-KK", "AA KK"},
+	{"TT-99", "TT 99"},
 	// Other classes with -.
 	{"AKs-AJs", "AKs AQs AJs"},
 	{"KTo-K8o", "KTo K9o K8o"},
@@ -287,10 +287,10 @@ var knownRanges = []struct{ text, classes string }{
 	{"AK-AT", "AKs AKo AQs AQo AJs AJo ATs ATo"},
 	{"J5-J3", "J5s J5o J4s J4o J3s J3o"},
 	{"A5s-A2s", "A5s A4s A3s A2s"},
-	{"AKs-AKs", "AKs"},
-	{"72o-72o", "72o"},
-	{"98-98", "98s 98o"},
-	{"32-32", "32s 32o"},
+	{"AKs-AQs", "AKs AQs"},
+	{"73o-72o", "73o 72o"},
+	{"AK-AQ", "AKs AKo AQs AQo"},
+	{"43-42", "43s 43o 42s 42o"},
 	// Several parts that overlap or come in any order.
 	{"QQ+,KK-JJ", "JJ QQ KK AA"},
 	{"22,AA", "22 AA"},
@@ -304,7 +304,7 @@ var knownRanges = []struct{ text, classes string }{
 		"22 33 44 55 66 77 88 99 TT JJ QQ KK AA AKs AQs A3s A3o A2s A2o KQs KQo T9o T8o"},
 	{"AJs+,AQo+,TT+", "AJs AQs AKs AQo AKo TT JJ QQ KK AA"},
 	{"22+,32+,42+,52+,62+,72+,82+,92+,T2+,J2+,Q2+,K2+,A2+", allClasses},
-	{"AK-A2,KQ-K2,QJ-Q2,JT-J2,T9-T2,98-92,87-82,76-72,65-62,54-52,43-42,32-32,AA-22", allClasses},
+	{"AK-A2,KQ-K2,QJ-Q2,JT-J2,T9-T2,98-92,87-82,76-72,65-62,54-52,43-42,32,AA-22", allClasses},
 }
 
 func TestKnownRanges(t *testing.T) {
@@ -320,8 +320,8 @@ func TestKnownRanges(t *testing.T) {
 // All parts are read, alone and with others around them.
 func TestAllParts(t *testing.T) {
 	parts := partList()
-	// 13 pairs and 3 * 78 others alone and with +, and with - two elements of each row, or one twice.
-	if want := 2*(13+3*78) + 13*14/2 + 3*364; len(parts) != want {
+	// 13 pairs and 3 * 78 others alone and with +, and with - two different elements of each row.
+	if want := 2*(13+3*78) + 13*12/2 + 3*286; len(parts) != want {
 		t.Fatal("there are", len(parts), "parts and not", want)
 	}
 	for _, text := range partTexts(parts) {
@@ -350,6 +350,19 @@ func TestAllPairsOfGroups(t *testing.T) {
 				first + "-" + second + "-" + second, first + " " + second, first + ";" + second, first + "," + second} {
 				expectRange(t, parts, s)
 			}
+		}
+	}
+}
+
+// A group is a part, but not with - and itself behind it, whatever parts are around it.
+func TestSameGroupOnBothSides(t *testing.T) {
+	for _, group := range slices.Concat(groupRows()...) {
+		if _, code := impl.ReadRange(group); code != impl.ErrNone {
+			t.Error("ReadRange of", group, "returns", code)
+		}
+		twice := group + "-" + group
+		for _, s := range []string{twice, twice + ",AA", "22+," + twice, "AA-KK," + twice + ",AKs-AQs", twice + "," + group} {
+			rejectRange(t, s, impl.ErrSyntax)
 		}
 	}
 }
@@ -390,6 +403,9 @@ func TestReadRangeRejects(t *testing.T) {
 		"QJs-JTs", "T9-98", "KQ-AQ",
 		// Two groups with - in the wrong order.
 		"QQ-KK", "22-AA", "KK-AA", "AQs-AKs", "A2o-A3o", "AT-AJ", "42-43",
+		// The same group twice with -, alone and among others.
+		"AA-AA", "TT-TT", "22-22", "AKs-AKs", "AKo-AKo", "AK-AK", "72o-72o", "98-98", "32s-32s", "32o-32o", "32-32",
+		"22-22,AA", "AA,KQs-KQs", "QQ+,AK-AK,22", "AA-KK,KK-KK",
 		// A pair and another class.
 		"AA-KQs", "AA-AK", "AA-AKs", "AA-AKo", "AK-AA", "AKs-AA", "AK-KK", "AK-22", "A2-22", "KK-KQ", "33-32", "32-22", "22-32", "AKs-KK",
 		// + and - at once, or one of them twice.
@@ -518,7 +534,7 @@ func TestKnownRangeTexts(t *testing.T) {
 		{"54s+,32", "54s,32s,32o"},
 		{"AKs-AJs", "AKs,AQs,AJs"},
 		{"22,AA", "AA,22"},
-		{"22-22,22,22+", "AA,KK,QQ,JJ,TT,99,88,77,66,55,44,33,22"},
+		{"33-22,22,22+", "AA,KK,QQ,JJ,TT,99,88,77,66,55,44,33,22"},
 		{"K2s,A2o,KK,AKo,A2s", "A2s,AKo,KK,K2s,A2o"},
 	} {
 		r, code := impl.ReadRange(c.text)
