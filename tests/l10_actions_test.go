@@ -1078,8 +1078,21 @@ func restored(b, from impl.Betting, number int) impl.Betting {
 	return b
 }
 
-// Overwriting one list of a round changes neither the others, nor what another call has returned or
-// will return, nor the argument.
+// givesNewRounds reports whether a call returns the same round each time, and overwriting one of its
+// lists changes neither the others, nor what another call has returned or will return.
+func givesNewRounds(call func() impl.Betting) bool {
+	first := call()
+	want := copyOfRound(first)
+	for number := range 5 {
+		second := call()
+		overwriteList(second, number)
+		if !sameRound(restored(second, want, number), want) || !sameRound(first, want) {
+			return false
+		}
+	}
+	return sameRound(call(), want)
+}
+
 func TestRoundResultsAreNew(t *testing.T) {
 	for _, b := range someRounds() {
 		if !impl.IsOpen(b) {
@@ -1087,14 +1100,9 @@ func TestRoundResultsAreNew(t *testing.T) {
 		}
 		kept := guardedRound(b)
 		for _, a := range legalIn(b) {
-			first, _ := impl.ApplyAction(kept, a)
-			want := copyOfRound(first)
-			for number := range 5 {
-				second, _ := impl.ApplyAction(kept, a)
-				overwriteList(second, number)
-				if !sameRound(restored(second, want, number), want) || !sameRound(first, want) || !sameAsGuardedRound(kept, b) {
-					t.Fatalf("ApplyAction of %+v, %+v shares the list %v", b, a, number)
-				}
+			next := func() impl.Betting { got, _ := impl.ApplyAction(kept, a); return got }
+			if !givesNewRounds(next) || !sameAsGuardedRound(kept, b) {
+				t.Fatalf("ApplyAction of %+v, %+v shares memory", b, a)
 			}
 			expectAction(t, kept, a)
 		}
