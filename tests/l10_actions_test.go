@@ -1016,6 +1016,11 @@ func guardedBools(list []bool) []bool {
 	return long[:len(list)]
 }
 
+// sameAsGuardedBools reports whether the list and its spare capacity are as guardedBools made them.
+func sameAsGuardedBools(kept, list []bool) bool {
+	return slices.Equal(kept[:len(list)+3], append(slices.Clone(list), true, false, true))
+}
+
 func guardedRound(b impl.Betting) impl.Betting {
 	b.Stacks, b.Bets, b.Paid = guarded(b.Stacks), guarded(b.Bets), guarded(b.Paid)
 	b.Folded, b.Acted = guardedBools(b.Folded), guardedBools(b.Acted)
@@ -1024,12 +1029,8 @@ func guardedRound(b impl.Betting) impl.Betting {
 
 // sameAsGuardedRound reports whether the lists and their spare capacities are as guardedRound made them.
 func sameAsGuardedRound(kept, b impl.Betting) bool {
-	for _, pair := range [][2][]bool{{kept.Folded, b.Folded}, {kept.Acted, b.Acted}} {
-		if !slices.Equal(pair[0][:len(pair[1])+3], append(slices.Clone(pair[1]), true, false, true)) {
-			return false
-		}
-	}
-	return sameRound(kept, b) && sameAsGuarded(kept.Stacks, b.Stacks) && sameAsGuarded(kept.Bets, b.Bets) && sameAsGuarded(kept.Paid, b.Paid)
+	return sameRound(kept, b) && sameAsGuarded(kept.Stacks, b.Stacks) && sameAsGuarded(kept.Bets, b.Bets) && sameAsGuarded(kept.Paid, b.Paid) &&
+		sameAsGuardedBools(kept.Folded, b.Folded) && sameAsGuardedBools(kept.Acted, b.Acted)
 }
 
 func TestRoundArgumentsStay(t *testing.T) {
